@@ -1,0 +1,1 @@
+"""A house of rooms and doors, and the keys that lead through it."""
