@@ -9,6 +9,14 @@ HANG_CALL = 5
 UNHANG_CALL = 6
 COUNTS_CALL = 7
 OPENS_CALL = 8
+LEADS_CALL = 9
+FOUND_CALL = 10
+WAY_CALL = 11
+SMALL_CALL = 12
+NEEDED_CALL = 13
+THROUGH_CALL = 14
+TRAPS_CALL = 15
+SHUT_CALL = 16
 
 # By a call's number: how many whole numbers it has ahead of its row.
 WHOLES = (7, 1, 1, 6, 3, 2, 1, 0, 1, 2, 2, 3, 4, 3, 3, 2, 2, 1)

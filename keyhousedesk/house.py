@@ -1,6 +1,7 @@
 """The house's calls, one behind another, and their answers."""
 
 from keyhousedesk.building import (
+    NO_FORM,
     NO_HOUSE,
     Desk,
     add_cylinder,
@@ -18,14 +19,34 @@ from keyhousedesk.calls import (
     CYLINDER_CALL,
     DOOR_CALL,
     FIT_CALL,
+    FOUND_CALL,
     HANG_CALL,
     KEY_CALL,
+    LEADS_CALL,
+    NEEDED_CALL,
     OPEN_CALL,
     OPENS_CALL,
+    SHUT_CALL,
+    SMALL_CALL,
+    THROUGH_CALL,
+    TRAPS_CALL,
     UNHANG_CALL,
+    WAY_CALL,
     read_calls,
 )
 from keyhousedesk.makes import Cylinder, Key, Make
+from keyhousedesk.questions import (
+    ask_found,
+    ask_leads,
+    ask_needed,
+    ask_parts,
+    ask_shut,
+    ask_small,
+    ask_through,
+    ask_traps,
+    ask_way,
+    refusal_of,
+)
 
 
 def answer_start(desk, wholes):
@@ -40,7 +61,7 @@ def answer_door(house, wholes):
     return add_door(house, ends, first, second)
 
 
-def answer_in_house(house, call):
+def answer_telling(house, call):
     wholes = call.wholes
     if call.number == KEY_CALL:
         return add_key(house, Key(wholes[0], call.row))
@@ -56,9 +77,40 @@ def answer_in_house(house, call):
         return unhang_key(house, wholes[0])
     if call.number == COUNTS_CALL:
         return count_all(house)
-    if call.number == OPENS_CALL:
-        return keys_of_side(house, wholes[0])
-    raise NotImplementedError("the calls from 9 on are not built yet")
+    return keys_of_side(house, wholes[0])
+
+
+def answer_question(house, call):
+    """The answer to a call whose bunch and rooms are there."""
+    wholes = call.wholes
+    bunch = wholes[0]
+    if call.number == LEADS_CALL:
+        return ask_leads(house, bunch, wholes[1])
+    if call.number == FOUND_CALL:
+        return ask_found(house, bunch, wholes[1])
+    if call.number == WAY_CALL:
+        return ask_way(house, bunch, wholes[1], wholes[2])
+    if call.number == SMALL_CALL:
+        return ask_small(house, bunch, wholes[1], wholes[2], wholes[3])
+    if call.number == NEEDED_CALL:
+        return ask_needed(house, bunch, wholes[1], wholes[2])
+    if call.number == THROUGH_CALL:
+        return ask_through(house, bunch, wholes[1], wholes[2])
+    if call.number == TRAPS_CALL:
+        return ask_traps(house, bunch, wholes[1])
+    if call.number == SHUT_CALL:
+        return ask_shut(house, bunch, wholes[1])
+    return ask_parts(house, bunch)
+
+
+def answer_asking(house, call):
+    if call.number == SMALL_CALL and call.wholes[3] > 1:
+        return [NO_FORM]
+    # Behind the bunch each of these calls has its rooms, two at most; small has back behind them.
+    refusal = refusal_of(house, call.wholes[0], call.wholes[1:3])
+    if refusal is not None:
+        return refusal
+    return answer_question(house, call)
 
 
 def answer_call(desk, call):
@@ -67,7 +119,9 @@ def answer_call(desk, call):
         return answer_start(desk, call.wholes)
     if desk.house is None:
         return [NO_HOUSE]
-    return answer_in_house(desk.house, call)
+    if call.number <= OPENS_CALL:
+        return answer_telling(desk.house, call)
+    return answer_asking(desk.house, call)
 
 
 def answers(calls):

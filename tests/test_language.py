@@ -1,4 +1,4 @@
-"""The package's own files keep to the part of Python that the program is written in (L1 to L28, as far as seen here)."""
+"""The package's own files keep to the part of Python that the program is written in, as far as seen here."""
 
 import ast
 import builtins
@@ -111,6 +111,78 @@ class Forms(unittest.TestCase):
         for name, node in nodes(ast.ListComp):
             self.assertEqual(len(node.generators), 1, (name, node.lineno))
             self.assertLessEqual(len(node.generators[0].ifs), 1, (name, node.lineno))
+
+
+WALKED = ("zip", "enumerate", "reversed", "range", "items", "keys", "values")
+WALKERS = ("list", "tuple", "dict", "sorted", "sum", "any", "all", "enumerate", "zip", "min", "max", "join")
+KEYWORDS = {
+    "sorted": ("key", "reverse"), "min": ("key", "default"), "max": ("key", "default"), "sum": ("start",),
+    "enumerate": ("start",), "zip": ("strict",),
+}
+CHANGES = ("append", "clear", "extend", "insert", "pop", "remove", "reverse", "setdefault", "update")
+
+
+def called_name(node):
+    if not isinstance(node, ast.Call):
+        return None
+    return node.func.id if isinstance(node.func, ast.Name) else getattr(node.func, "attr", None)
+
+
+def with_parents():
+    """Each node with the one that it stands in."""
+    return [(name, child, node) for name, node in nodes(ast.AST) for child in ast.iter_child_nodes(node)]
+
+
+class Uses(unittest.TestCase):
+    def test_walked_at_once(self):
+        for name, node, parent in with_parents():
+            if called_name(node) in WALKED:
+                walked = isinstance(parent, (ast.For, ast.comprehension)) and parent.iter is node
+                first = called_name(parent) in WALKERS and parent.args and parent.args[0] is node
+                self.assertTrue(walked or first or called_name(parent) == "zip", (name, node.lineno))
+
+    def test_what_a_loop_walks_is_not_changed_in_it(self):
+        for name, loop in nodes(ast.For):
+            walked = {node.id for node in ast.walk(loop.iter) if isinstance(node, ast.Name)}
+            for node in [inner for row in loop.body for inner in ast.walk(row)]:
+                if called_name(node) in CHANGES and isinstance(node.func.value, ast.Name):
+                    self.assertNotIn(node.func.value.id, walked, (name, node.lineno))
+                if isinstance(node, ast.Subscript) and isinstance(node.ctx, ast.Store):
+                    self.assertNotIn(getattr(node.value, "id", None), walked, (name, node.lineno))
+
+    def test_a_set_is_not_kept(self):
+        for name, node, parent in with_parents():
+            if called_name(node) in ("set", "frozenset"):
+                beside = isinstance(parent, (ast.Compare, ast.BinOp))
+                self.assertTrue(beside or called_name(parent) in ("sorted", "len"), (name, node.lineno))
+
+    def test_keywords(self):
+        for name, node in nodes(ast.Call):
+            if called_name(node) in OWN_NAMES + METHODS:
+                given = {keyword.arg for keyword in node.keywords}
+                self.assertLessEqual(given, set(KEYWORDS.get(called_name(node), ())), (name, node.lineno))
+
+    def test_pythons_own_are_called_and_not_kept(self):
+        called = [node.func for name, node in nodes(ast.Call)]
+        kept = [keyword.value for name, keyword in nodes(ast.keyword)]
+        for name, node in nodes(ast.Name):
+            if node.id in OWN_NAMES and node not in called + kept:
+                self.assertTrue(node.id[0].isupper() or node.id in ("int", "str", "bool", "list", "tuple", "dict"),
+                                (name, node.lineno))
+
+    def test_no_annotations(self):
+        for name, node in nodes(ast.FunctionDef):
+            self.assertIsNone(node.returns, (name, node.name))
+        for name, node in nodes(ast.arg):
+            self.assertIsNone(node.annotation, (name, node.lineno))
+
+    def test_tables_at_a_files_top_are_tuples_of_plain_values(self):
+        for name, tree in TREES:
+            for node in tree.body:
+                if isinstance(node, ast.Assign):
+                    kinds = {type(inner) for inner in ast.walk(node.value)}
+                    plain = {ast.Constant, ast.Tuple, ast.Load, ast.UnaryOp, ast.USub}
+                    self.assertLessEqual(kinds, plain, (name, node.lineno))
 
 
 class Names(unittest.TestCase):

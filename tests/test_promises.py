@@ -1,11 +1,10 @@
-"""F7, the interface, and long lists of calls held against a second telling of the document."""
+"""F7 over all calls, and the interface."""
 
-import random
 import unittest
 
 from desk_calls import (
-    FREE, GREATEST, LETTERS, SHUT, ask, bits, counts, cylinder, door, fit, hang, joined, key, locked, looks, opens,
-    start, taken_apart, unhang,
+    FREE, GREATEST, LETTERS, SHUT, ask, bits, counts, cylinder, door, fit, found, hang, joined, key, keyed, leads,
+    locked, looks, needed, opens, parts, shut, small, start, through, traps, unhang, way,
 )
 from keyhousedesk.house import answers
 
@@ -32,6 +31,16 @@ REFUSED = [
     (fit(0, (2, 1)), -1), (fit(48, FREE), -4), (fit(0, locked(16)), -4),
     (hang(8, 0), -4), (hang(0, 4), -4), (hang(5, 0), -2),
     (unhang(8), -4), (unhang(5), -3), (opens(48), -4),
+    (leads(256, 0), -1), (leads(0, 4), -4), (found(256, 0), -1), (found(0, 4), -4),
+    (way(256, 0, 1), -1), (way(0, 0, 4), -4), (way(1, 0, 3), -3),
+    (small(1, 0, 1, 2), -1), (small(256, 0, 1), -1), (small(0, 4, 0), -4), (small(1, 0, 3), -3),
+    (needed(256, 0, 1), -1), (needed(0, 0, 4), -4), (needed(1, 0, 3), -3),
+    (through(256, 0, 1), -1), (through(0, 4, 1), -4), (through(1, 0, 3), -3),
+    (traps(256, 0), -1), (traps(0, 4), -4), (shut(256, 0), -1), (shut(0, 4), -4), (parts(256), -1),
+]
+QUESTIONS = [
+    leads(7, 0), found(0, 0), way(7, 0, 1), small(7, 0, 1, 1), needed(7, 0, 1), through(7, 0, 1), traps(7, 0),
+    shut(7, 1), parts(7), way(7, 2, 2),
 ]
 REFUSED_WHERE_FULL = [(key(0, [0, 0, 0]), -2), (cylinder(0, [1, 1, 1]), -2), (door(0, 1, FREE, SHUT), -2)]
 
@@ -83,6 +92,16 @@ class Interface(unittest.TestCase):
         given = ask(start(), key(0, []), counts(), cylinder(0, [7] * 16), counts())
         self.assertEqual(given, [[0], [-1], [0, 0, 0, 0, 4], [-1], [0, 0, 0, 0, 4]])
 
+    def test_how_the_later_calls_and_answers_stand_in_the_list(self):
+        house = [*keyed(3, 2, [0], [1]), door(0, 1, locked(0), SHUT), door(1, 2, locked(1), FREE), hang(1, 1)]
+        calls = [9, 1, 0, 10, 1, 0, 11, 3, 0, 2, 12, 3, 0, 2, 0, 12, 3, 1, 2, 1, 13, 3, 0, 2, 14, 3, 0, 2, 15, 3, 0,
+                 16, 3, 0, 17, 3, 11, 0, 0, 2, 14, 3, 9, 0]
+        given = answers(joined(house) + calls)[2 * len(house):]
+        self.assertEqual(given, [
+            3, 2, 0, 1, 6, 3, 0, 1, 2, 0, 1, 3, 2, 0, 2, 3, 2, 0, 1, 2, 1, 1, 3, 2, 0, 1, 3, 2, 0, 2, 2, 1, 0,
+            3, 2, 1, 2, 4, 2, 0, 1, 1, 1, -3, 1, -4,
+        ])
+
     def test_every_call_but_the_first_before_a_house(self):
         later = [[9, 0, 0], [10, 0, 0], [11, 0, 0, 0], [12, 0, 0, 0, 2], [13, 0, 0, 0], [14, 0, 0, 0],
                  [15, 0, 0], [16, 0, 0], [17, 0]]
@@ -93,200 +112,43 @@ class Interface(unittest.TestCase):
         most = GREATEST
         calls = [start(most, most, most, most, most, most, most), start(), key(most, [most] * 16),
                  cylinder(most, [most] * 16), door(most, most, (most, most), (most, most)), fit(most, (most, most)),
-                 hang(most, most), unhang(most), opens(most), counts()]
-        given = [[-1], [0], [-1], [-1], [-1], [-1], [-4], [-4], [-4], [0, 0, 0, 0, 4]]
+                 hang(most, most), unhang(most), opens(most), leads(most, most), found(most, most),
+                 way(most, most, most), small(most, most, most, most), needed(most, most, most),
+                 through(most, most, most), traps(most, most), shut(most, most), parts(most), counts()]
+        given = [[-1], [0], [-1], [-1], [-1], [-1], [-4], [-4], [-4]] + [[-1]] * 9 + [[0, 0, 0, 0, 4]]
         self.assertEqual(ask(*calls), given)
 
     def test_what_is_handed_in_stays_as_it_was(self):
-        calls = joined(HOUSE + [call for call, number in REFUSED] + [counts()])
+        calls = joined(HOUSE + [call for call, number in REFUSED] + QUESTIONS + [counts()])
         kept = list(calls)
         answers(calls)
         self.assertEqual(calls, kept)
 
     def test_nothing_is_kept_from_one_time_to_the_next(self):
-        first = answers(joined(FULL))
+        calls = joined(FULL + QUESTIONS)
+        first = answers(calls)
         self.assertEqual(answers(counts()), [1, -5])
-        self.assertEqual(answers(joined(FULL)), first)
+        self.assertEqual(answers(found(0, 0)), [1, -5])
+        self.assertEqual(answers(calls), first)
 
     def test_what_is_given_back_is_the_callers(self):
-        calls = joined(HOUSE + [opens(0)])
+        calls = joined(HOUSE + [opens(0)] + QUESTIONS)
         first = answers(calls)
         kept = list(first)
         first.clear()
         self.assertEqual(answers(calls), kept)
 
     def test_whole_numbers_in_a_list(self):
-        given = answers(joined(HOUSE + [opens(0), counts()]))
+        given = answers(joined(HOUSE + [opens(0), counts()] + QUESTIONS))
         self.assertIs(type(given), list)
         self.assertEqual({type(number) for number in given}, {int})
 
+    def test_400_calls_as_long_as_can_be(self):
+        calls = [start()] + [key(0, [0] * 16)] * 399
+        self.assertEqual(ask(*calls), [[0]] + [[-1]] * 399)
+
     def test_400_calls(self):
         self.assertEqual(ask(start(), *[counts()] * 399), [[0]] + [[0, 0, 0, 0, 4]] * 399)
-
-
-# Each call with 0, if it is taken, or with a refusal of its own.
-EVERY_ANSWER = [
-    (0, 0), (0, -1), (1, 0), (1, -1), (1, -2), (2, 0), (2, -1), (2, -2), (3, 0), (3, -1), (3, -4), (3, -2),
-    (4, 0), (4, -1), (4, -4), (5, 0), (5, -4), (5, -2), (6, 0), (6, -4), (6, -3), (7, 0), (8, 0), (8, -4),
-]
-
-
-class Telling:
-    """The document told a second time, call by call, with sets of Python's own."""
-
-    def __init__(self):
-        self.make = None
-
-    def answer(self, call):
-        if call[0] == 0:
-            return self.answer_start(*call[1:])
-        if self.make is None:
-            return [-5]
-        named = (self.key, self.cylinder, self.door, self.fit, self.hang, self.unhang, self.counts, self.opens)
-        return named[call[0] - 1](*call[1:])
-
-    def answer_start(self, n, depths, step, pin, kinds, run, rooms):
-        fine = (n in range(1, 8) and depths in range(2, 11) and step in range(1, depths) and pin in range(1, depths)
-                and kinds in range(1, min(n, depths) + 1) and run in range(1, n + 1) and rooms in range(1, 25))
-        if not fine:
-            return [-1]
-        self.make = (n, depths, pin)
-        self.rooms = range(rooms)
-        self.told_keys, self.cylinders, self.doors, self.hooks = [], [], [], {}
-        return [0]
-
-    def key(self, grooves, many, *cuts):
-        n, depths, pin = self.make
-        if many != n or max(cuts) >= depths or grooves.bit_length() > 26:
-            return [-1]
-        return self.put(self.told_keys, 8, (grooves, cuts))
-
-    def cylinder(self, wards, many, *sets):
-        n, depths, pin = self.make
-        chambers = [[depth for depth in range(32) if one & 1 << depth] for one in sets]
-        if many != n or wards.bit_length() > 26:
-            return [-1]
-        for chamber in chambers:
-            close = [1 for low in chamber for high in chamber if low < high < low + pin]
-            if close or not 1 <= len(chamber) <= 6 or chamber[-1] >= depths:
-                return [-1]
-        return self.put(self.cylinders, 16, (wards, chambers))
-
-    def door(self, a, b, *told):
-        sides = [told[:2], told[2:]]
-        if not all(self.tells(side) for side in sides):
-            return [-1]
-        if not {a, b} <= set(self.rooms) or self.lacks(sides[0]) or self.lacks(sides[1]):
-            return [-4]
-        return self.put(self.doors, 24, sides)
-
-    def fit(self, side, *told):
-        if not self.tells(told):
-            return [-1]
-        if side // 2 >= len(self.doors) or self.lacks(told):
-            return [-4]
-        self.doors[side // 2][side % 2] = told
-        return [0]
-
-    def hang(self, number, room):
-        if number >= len(self.told_keys) or room not in self.rooms:
-            return [-4]
-        if len(set(self.hooks) | {number}) > 4:
-            return [-2]
-        self.hooks[number] = room
-        return [0]
-
-    def unhang(self, number):
-        if number >= len(self.told_keys):
-            return [-4]
-        return [-3] if self.hooks.pop(number, None) is None else [0]
-
-    def counts(self):
-        return [0, len(self.told_keys), len(self.cylinders), len(self.doors), len(self.rooms)]
-
-    def opens(self, side):
-        if side // 2 >= len(self.doors):
-            return [-4]
-        what, which = self.doors[side // 2][side % 2]
-        if what != 1:
-            return [0]
-        wards, chambers = self.cylinders[which]
-        turning = [number for number, (grooves, cuts) in enumerate(self.told_keys)
-                   if not wards & ~grooves and all(cut in chamber for cut, chamber in zip(cuts, chambers))]
-        return [len(turning)] + turning
-
-    def put(self, shelf, most, thing):
-        if len(shelf) >= most:
-            return [-2]
-        shelf.append(thing)
-        return [len(shelf) - 1]
-
-    def tells(self, side):
-        return side[0] == 1 or side in ((0, 0), (2, 0))
-
-    def lacks(self, side):
-        return side[0] == 1 and side[1] >= len(self.cylinders)
-
-
-class Chance:
-    """Calls by chance, mostly near what is taken."""
-
-    def __init__(self, seed):
-        self.source = random.Random(seed)
-        self.n = self.source.randint(1, 3)
-        self.depths = self.source.randint(2, 5)
-        self.begins_again = True
-
-    def near(self, most):
-        return self.source.choice([self.source.randint(0, most)] * 9 + [self.source.choice([most + 1, GREATEST])])
-
-    def row(self, most):
-        many = self.source.choice([self.n] * 9 + [self.source.randint(0, 16)])
-        return [self.near(most) for place in range(many)]
-
-    def what(self):
-        return self.source.choice([FREE, SHUT] + [locked(self.near(5))] * 4 + [(self.near(2), self.near(1))])
-
-    def letters(self):
-        return self.source.choice([0, 0, 1, 2, 3, LETTERS - 1, LETTERS])
-
-    def begin(self):
-        self.n = self.source.randint(1, 3)
-        self.depths = self.source.randint(2, 5)
-        smaller = min(self.n, self.depths)
-        pin = self.source.choice([1, 1, 2])
-        return start(self.n, self.depths, self.near(self.depths - 1), pin, self.near(smaller), self.near(self.n), 5)
-
-    def call(self):
-        sort = self.source.choice("kkkcccddddfffhhhuunoooo" + "s" * self.begins_again)
-        made = {
-            "s": self.begin,
-            "k": lambda: key(self.letters(), self.row(self.depths - 1)),
-            "c": lambda: cylinder(self.letters(), self.row(2 ** self.depths - 1)),
-            "d": lambda: door(self.near(4), self.near(4), self.what(), self.what()),
-            "f": lambda: fit(self.near(9), self.what()),
-            "h": lambda: hang(self.near(6), self.near(4)),
-            "u": lambda: unhang(self.near(6)),
-            "n": counts,
-            "o": lambda: opens(self.near(9)),
-        }
-        return made[sort]()
-
-
-class ByChance(unittest.TestCase):
-    def test_long_lists_of_calls(self):
-        answered = set()
-        for seed in range(90):
-            chance = Chance(seed)
-            chance.begins_again = seed % 3 != 0
-            calls = [start(chance.n, chance.depths, 1, 1, 1, 1, 5)] + [chance.call() for place in range(399)]
-            telling = Telling()
-            expected = [telling.answer(call) for call in calls]
-            given = taken_apart(answers(joined(calls)))
-            self.assertEqual(given, expected, seed)
-            answered |= {(call[0], min(answer[0], 0)) for call, answer in zip(calls, given)}
-        # Chance must have come to every refusal, or the lists above say less than they seem to.
-        self.assertEqual(answered, set(EVERY_ANSWER))
 
 
 if __name__ == "__main__":
